@@ -1,0 +1,185 @@
+"""Rules of the language subset that can be seen in the code: not all of them, but those that slip in easily."""
+
+import ast
+import builtins
+import os
+import re
+import unittest
+
+FOLDER = os.path.join(os.path.dirname(__file__), "..", "toldpushes")
+
+LIBRARY = {"math": {"gcd", "lcm", "isqrt", "comb", "perm", "factorial"}, "itertools": {"product", "combinations", "permutations"}}
+
+BUILTINS = set("""len range enumerate zip min max sum abs sorted reversed int str bool list tuple dict set isinstance ord repr
+    any all divmod Exception ValueError TypeError KeyError IndexError LookupError ZeroDivisionError ArithmeticError
+    OverflowError RuntimeError NotImplementedError AttributeError StopIteration NotImplemented property staticmethod
+    classmethod super""".split())
+
+METHODS = set("""append clear copy count endswith extend find get index insert isalnum isalpha isdigit islower isspace isupper
+    items join keys ljust lower lstrip partition pop remove replace reverse rfind rjust rpartition rsplit rstrip setdefault
+    split splitlines startswith strip update upper values zfill bit_length add discard""".split())
+
+DOUBLE = set("""__init__ __eq__ __repr__ __str__ __len__ __enter__ __exit__ __call__ __iter__ __add__ __radd__ __sub__ __rsub__
+    __mul__ __rmul__ __neg__ __contains__ __getitem__""".split())
+
+BARRED_NODES = (ast.Global, ast.AsyncFunctionDef, ast.AsyncFor, ast.AsyncWith, ast.Await, ast.Div, ast.GeneratorExp, ast.AnnAssign,
+                ast.Try, ast.Delete)
+
+BARRED_NAMES = set("""register mro elements open input law version_info with_traceback add_note type typing enum Enum Generic
+    Protocol ABC namedtuple NamedTuple TypedDict""".split())
+
+
+# What was last shown stands under "_" among the builtins, as soon as something was shown.
+TAKEN = set(dir(builtins)) - {"_"}
+
+
+def files():
+    """The package's files: their names without .py, their texts and their trees."""
+    found = {}
+    for name in sorted(os.listdir(FOLDER)):
+        if name.endswith(".py"):
+            with open(os.path.join(FOLDER, name), encoding="utf-8", newline="") as kept:
+                text = kept.read()
+            found[name[:-3]] = (text, ast.parse(text))
+    return found
+
+
+FILES = files()
+NODES = [(name, node) for name, (_, tree) in FILES.items() for node in ast.walk(tree)]
+
+
+def bound_at_top(tree):
+    """All names that a file binds at module level, imports included."""
+    found = []
+    for row in tree.body:
+        if isinstance(row, ast.ImportFrom):
+            found += [part.asname or part.name for part in row.names]
+        elif isinstance(row, (ast.FunctionDef, ast.ClassDef)):
+            found.append(row.name)
+        elif isinstance(row, ast.Assign):
+            found += [target.id for target in row.targets]
+    return found
+
+
+def imported_files(tree):
+    return [row.module.split(".")[1] for row in tree.body if isinstance(row, ast.ImportFrom) and row.module not in LIBRARY]
+
+
+class Files(unittest.TestCase):
+
+    def test_names(self):
+        for name in os.listdir(FOLDER):
+            self.assertTrue(re.fullmatch(r"[a-z0-9_]+\.py|__pycache__", name), name)
+        self.assertLessEqual(len(FILES), 100)
+
+    def test_sizes_and_signs(self):
+        for name, (text, _) in FILES.items():
+            lines = text.split("\n")
+            self.assertLessEqual(len(lines), 400, name)
+            self.assertLessEqual(max(len(line) for line in lines), 120, name)
+            self.assertEqual({sign for sign in text if not (" " <= sign <= "~" or sign == "\n")}, set(), name)
+        for name, node in NODES:
+            if isinstance(node, ast.FunctionDef):
+                self.assertLessEqual(node.end_lineno - node.lineno + 1, 40, (name, node.name))
+
+    def test_rows_at_top(self):
+        for name, (_, tree) in FILES.items():
+            rows = tree.body[1:]
+            self.assertIsNotNone(ast.get_docstring(tree), name)
+            for before, row in zip([None] + rows, rows):
+                self.assertIsInstance(row, (ast.ImportFrom, ast.FunctionDef, ast.ClassDef, ast.Assign))
+                if isinstance(row, ast.ImportFrom):
+                    self.assertTrue(before is None or isinstance(before, ast.ImportFrom), name)
+
+    def test_imports(self):
+        for name, node in NODES:
+            self.assertNotIsInstance(node, ast.Import, name)
+            if isinstance(node, ast.ImportFrom):
+                self.assertEqual(node.level, 0)
+                for part in node.names:
+                    self.assertIsNone(part.asname)
+                    if node.module in LIBRARY:
+                        self.assertIn(part.name, LIBRARY[node.module])
+                    else:
+                        package, there = node.module.split(".")
+                        self.assertEqual(package, "toldpushes")
+                        rows = [row for row in FILES[there][1].body if not isinstance(row, ast.ImportFrom)]
+                        self.assertIn(part.name, bound_at_top(ast.Module(rows, [])), (name, part.name))
+
+    def test_imports_make_no_rings(self):
+        left = {name: imported_files(tree) for name, (_, tree) in FILES.items()}
+        while left:
+            free = [name for name, wants in left.items() if not any(want in left for want in wants)]
+            self.assertTrue(free, left)
+            left = {name: wants for name, wants in left.items() if name not in free}
+
+
+class Names(unittest.TestCase):
+
+    def test_bound_once(self):
+        for name, (_, tree) in FILES.items():
+            found = bound_at_top(tree)
+            self.assertEqual(len(set(found)), len(found), name)
+            used = {node.id for node in ast.walk(tree) if isinstance(node, ast.Name)}
+            for row in tree.body:
+                if isinstance(row, ast.ImportFrom):
+                    self.assertLessEqual({part.name for part in row.names}, used, name)
+
+    def test_builtins(self):
+        for name, node in NODES:
+            if isinstance(node, ast.Name):
+                self.assertNotIn(node.id, BARRED_NAMES)
+                if node.id in TAKEN:
+                    self.assertIsInstance(node.ctx, ast.Load)
+                    self.assertIn(node.id, BUILTINS, name)
+            if isinstance(node, ast.arg):
+                self.assertNotIn(node.arg, TAKEN, name)
+                self.assertIsNone(node.annotation)
+
+    def test_local_names(self):
+        for name, (_, tree) in FILES.items():
+            barred = {row.name for row in tree.body if isinstance(row, ast.ClassDef)}
+            for row in tree.body:
+                if isinstance(row, ast.ImportFrom):
+                    barred |= {part.name for part in row.names}
+            for node in ast.walk(tree):
+                if isinstance(node, ast.arg):
+                    self.assertNotIn(node.arg, barred, name)
+                if isinstance(node, ast.Name) and isinstance(node.ctx, ast.Store):
+                    self.assertNotIn(node.id, barred, name)
+
+    def test_methods(self):
+        own = {node.name for _, node in NODES if isinstance(node, ast.FunctionDef)}
+        for name, node in NODES:
+            if isinstance(node, ast.Call) and isinstance(node.func, ast.Attribute):
+                self.assertIn(node.func.attr, METHODS | own, name)
+            if isinstance(node, ast.FunctionDef) and node.name.startswith("__"):
+                self.assertIn(node.name, DOUBLE, name)
+
+
+class Rows(unittest.TestCase):
+
+    def test_barred(self):
+        for name, node in NODES:
+            self.assertNotIsInstance(node, BARRED_NODES, (name, getattr(node, "lineno", None)))
+            if isinstance(node, ast.Constant):
+                self.assertNotIsInstance(node.value, (float, complex))
+                self.assertNotIn("%", str(node.value), name)
+
+    def test_is(self):
+        for name, node in NODES:
+            if isinstance(node, ast.Compare) and any(isinstance(sign, (ast.Is, ast.IsNot)) for sign in node.ops):
+                self.assertIsInstance(node.comparators[0], ast.Constant, name)
+
+    def test_sets(self):
+        for name, (_, tree) in FILES.items():
+            measured = [node.args[0] for node in ast.walk(tree) if isinstance(node, ast.Call)
+                        and isinstance(node.func, ast.Name) and node.func.id in ("len", "sorted")]
+            for node in ast.walk(tree):
+                if isinstance(node, ast.Call) and isinstance(node.func, ast.Name) and node.func.id == "set":
+                    self.assertIn(node, measured, name)
+                self.assertNotIsInstance(node, (ast.Set, ast.SetComp), name)
+
+
+if __name__ == "__main__":
+    unittest.main()

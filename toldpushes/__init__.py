@@ -1,0 +1,1 @@
+"""Told pushes: strengths of pushes told back from how things go together."""
