@@ -65,6 +65,47 @@ def imported_files(tree):
     return [row.module.split(".")[1] for row in tree.body if isinstance(row, ast.ImportFrom) and row.module not in LIBRARY]
 
 
+PROPERTIES = {node.name for _, node in NODES if isinstance(node, ast.FunctionDef)
+              and any(isinstance(over, ast.Name) and over.id == "property" for over in node.decorator_list)}
+
+ERRORS = set(bound_at_top(FILES["errors"][1]))
+
+
+def is_plain_star(node):
+    """Whether this may stand behind a star: a name, an attribute off a name, a literal, or a display of these."""
+    if isinstance(node, (ast.List, ast.Tuple)):
+        return all(is_plain_star(part) for part in node.elts)
+    if isinstance(node, ast.Dict):
+        return all(part is not None and is_plain_star(part) for part in node.keys + node.values)
+    if isinstance(node, ast.Attribute):
+        return isinstance(node.value, ast.Name) and node.attr not in PROPERTIES
+    return isinstance(node, (ast.Name, ast.Constant))
+
+
+def may_have_stars(called):
+    """Whether a call of this may have stars: what is the package's own, passed or local, and max, min and zip."""
+    if isinstance(called, ast.Name):
+        return called.id in ("max", "min", "zip") or called.id not in TAKEN | ERRORS
+    return isinstance(called, ast.Attribute) and called.attr not in METHODS
+
+
+def is_call_with_wrong_stars(node):
+    """Whether it is a call that has stars otherwise than rule L7 lets it."""
+    if not isinstance(node, ast.Call):
+        return False
+    single = [part.value for part in node.args if isinstance(part, ast.Starred)]
+    double = [part.value for part in node.keywords if part.arg is None]
+    if not single and not double:
+        return False
+    rows = [part.value if isinstance(part, ast.Starred) else part for part in node.args]
+    rows = rows if double else single
+    late = [part for part in node.keywords if part.arg and any((there.lineno, there.col_offset) > (part.value.lineno,
+            part.value.col_offset) for there in single)]
+    return not (may_have_stars(node.func) and all(is_plain_star(part) for part in rows) and not late
+                and all(isinstance(part, (ast.Name, ast.Attribute)) and is_plain_star(part) for part in double)
+                and (not double or len(node.keywords) == 1))
+
+
 class Files(unittest.TestCase):
 
     def test_names(self):
@@ -179,6 +220,22 @@ class Rows(unittest.TestCase):
                 if isinstance(node, ast.Call) and isinstance(node.func, ast.Name) and node.func.id == "set":
                     self.assertIn(node, measured, name)
                 self.assertNotIsInstance(node, (ast.Set, ast.SetComp), name)
+
+    def test_stars_in_calls(self):
+        for name, node in NODES:
+            self.assertFalse(is_call_with_wrong_stars(node), (name, getattr(node, "lineno", None)))
+
+    def test_stars_are_told_apart(self):
+        wrong = ["zip(*told(table))", "max(*plan.arrows())", "f(*rows[0])", "f(*rows[1:])", "f(*[row for row in rows])",
+                 "f(*(a + b))", "f(*plan.width)", "f(*a.b.c)", "f(*[told(a)])", "f(*xs, *told(ys))", "f(**told(d))", "f(told(a), **d)",
+                 "f(**{'a': 1})", "f(k=1, **d)", "f(**d, **e)", "f(k=1, *xs)", "len(*xs)", "print(*xs)", "InvalidLot(*xs)",
+                 "xs.append(*ys)", "f(*(a if b else c))", "f(*(a or b))", "[f(row) for row in zip(*told(table))]"]
+        right = ["zip(*rows)", "max(*xs)", "min(*xs, key=len)", "f(*xs)", "f(k, *xs)", "f(*xs, n, sep=n)", "f(**d)", "f(k, **d)",
+                 "f(*self.rows)", "f(*[a, b])", "f(*(a, 1))", "box.tell(*xs)", "f(told(a), *xs)", "f(told(a))", "[*told(a)]",
+                 "super().__init__(*xs, **more)"]
+        for row in wrong + right:
+            found = [node for node in ast.walk(ast.parse(row)) if is_call_with_wrong_stars(node)]
+            self.assertEqual(bool(found), row in wrong, row)
 
 
 if __name__ == "__main__":

@@ -50,7 +50,8 @@ def less(table, other):
 def about(table):
     """The table turned about: its columns as rows."""
     check_table(table)
-    return [list(column) for column in zip(*told(table))]
+    rows = told(table)
+    return [list(column) for column in zip(*rows)]
 
 
 def undone(table):
