@@ -1,6 +1,8 @@
 """Values of all kinds, and a check of what is raised, for all tests."""
 
-from toldpushes.errors import UnlikeSizes
+import copy
+
+from toldpushes.errors import TooMany, UnlikeSizes
 from toldpushes.plans import Plan
 from toldpushes.ratios import Ratio
 
@@ -66,6 +68,50 @@ def check_stopped(test, error, call, /, *passed, **named):
         call(*passed, **named)
     test.assertIs(type(caught.exception), error)
     test.assertEqual(vars(caught.exception), {})
+
+
+def check_too_many(test, what, limit, call, /, *passed, **named):
+    """The call raises TooMany of this, with this limit."""
+    with test.assertRaises(TooMany) as caught:
+        call(*passed, **named)
+    test.assertIs(type(caught.exception), TooMany)
+    test.assertEqual((caught.exception.what, caught.exception.limit), (what, limit))
+
+
+def check_parameters(test, call, valid, wrong):
+    """Each wrong value of a parameter is refused, by place ahead of wrong ones behind it, and by name.
+
+    Valid has a value for each name, in sequence; wrong has for each name a tuple of the error and of wrong values.
+    """
+    names = list(valid)
+    test.assertEqual(list(wrong), names)
+    for at, (name, (error, values)) in enumerate(wrong.items()):
+        ahead, behind = list(valid.values())[:at], ["later"] * (len(names) - at - 1)
+        for value in values:
+            check_refused(test, error, value, call, *ahead, value, *behind)
+            check_refused(test, error, value, call, **{**dict(reversed(valid.items())), name: value})
+
+
+def lists_in(value):
+    """All lists in a value, at whatever depth, each as often as it is found."""
+    if not isinstance(value, (list, tuple)):
+        return []
+    return [value] * isinstance(value, list) + [one for part in value for one in lists_in(part)]
+
+
+def check_fresh(test, call, /, *passed):
+    """What the call tells has new lists, and changing them changes nothing later; what was passed stays."""
+    before = copy.deepcopy(passed)
+    told = call(*passed)
+    kept, lists = copy.deepcopy(told), lists_in(told)
+    test.assertEqual(len({id(one) for one in lists}), len(lists))
+    test.assertFalse({id(one) for one in lists} & {id(one) for one in lists_in(passed)})
+    for one in lists:
+        one.append("changed")
+    test.assertTrue(same(passed, before))
+    again = call(*passed)
+    test.assertTrue(same(again, kept), (again, kept))
+    test.assertTrue(same(call(*before), kept))
 
 
 def all_but(*valid):

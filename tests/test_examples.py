@@ -31,8 +31,9 @@ class Examples(unittest.TestCase):
 
     def test_each_file_has_one(self):
         self.assertEqual([head for head, _ in blocks()],
-                         ["toldpushes/basics.py, toldpushes/ratios.py", "toldpushes/solved.py", "toldpushes/tables.py",
-                          "toldpushes/plans.py", "toldpushes/ways.py"])
+                         ["toldpushes/basics.py, toldpushes/ratios.py"]
+                         + [f"toldpushes/{name}.py" for name in "solved tables plans ways tellings roads lots bars back fits"
+                            " twins full".split()])
 
     def test_readme(self):
         told = []

@@ -4,38 +4,12 @@ import random
 import unittest
 from fractions import Fraction
 
-from tests.kinds import Stubborn, all_but, check_refused, check_stopped, looped
+from tests.kinds import Stubborn, check_refused, check_stopped
+from tests.reckoned import by_places, check_told, multiplied, of_fractions, of_ratios
+from tests.wrong import NO_TABLES
 from toldpushes.errors import InvalidSize, InvalidTable, NotSymmetric, NotUndone, UnlikeSizes
 from toldpushes.ratios import Ratio
 from toldpushes.tables import about, determinant, idle, is_above, is_symmetric, is_table, less, pivots, times, undone
-
-NO_TABLES = all_but([], (), [(0,)])
-NO_TABLES += [[[1, 2]], [[1], [2]], [[1, 2], [3]], [[1, 2], [3, 4], [5, 6]], [[1, 2, 3], [4, 5, 6]], [[1], []], [[], [1]],
-              [[0] * 7] * 7, [[0] * 6] * 7, [[0] * 7] * 6, ((1, 2),), [[True]], [[1, 0], [0, False]], [[1, 0], [0, "1"]],
-              [[1, 0], "10"], [[1, 0], None], [[1, 0], {0: 1, 1: 1}], [[1, 0], range(2)], "1", [[[1]]], [[None]],
-              [[1, 0], [0, Stubborn()]], [Stubborn()], looped()]
-
-
-def of_fractions(table):
-    return [[Fraction(number.top, number.bottom) if isinstance(number, Ratio) else Fraction(number) for number in row]
-            for row in table]
-
-
-def of_ratios(table):
-    return [[Ratio(Fraction(number).numerator, Fraction(number).denominator) for number in row] for row in table]
-
-
-def by_places(table):
-    """The determinant, straight as it is told by the places of the first row."""
-    if not table:
-        return Fraction(1)
-    return sum((-1) ** place * number * by_places([row[:place] + row[place + 1:] for row in table[1:]])
-               for place, number in enumerate(table[0]))
-
-
-def multiplied(table, other):
-    places = range(len(table))
-    return [[sum(table[i][k] * other[k][j] for k in places) for j in places] for i in places]
 
 
 def some_tables(seed, each=6):
@@ -71,14 +45,6 @@ def some_symmetric(seed):
 
 class Told(unittest.TestCase):
 
-    def check_told(self, table, wanted):
-        self.assertIs(type(table), list)
-        for row in table:
-            self.assertIs(type(row), list)
-            for number in row:
-                self.assertIs(type(number), Ratio)
-        self.assertEqual(of_fractions(table), wanted)
-
     def test_is_table(self):
         for table in some_tables(1) + [[], (), ((1,),), [(0,)], ([1, 2], (Ratio(1, 2), 0)), [[0] * 6] * 6]:
             self.assertIs(is_table(table), True)
@@ -88,8 +54,8 @@ class Told(unittest.TestCase):
 
     def test_idle(self):
         for size in range(7):
-            self.check_told(idle(size), [[int(i == j) for j in range(size)] for i in range(size)])
-        self.check_told(idle(size=1), [[1]])
+            check_told(self, idle(size), [[int(i == j) for j in range(size)] for i in range(size)])
+        check_told(self, idle(size=1), [[1]])
 
     def test_idle_refused(self):
         for size in [-1, 7, 10 ** 30, True, False, None, "1", [1], Ratio(1), Ratio(0), Stubborn(), [[1]]]:
@@ -99,18 +65,18 @@ class Told(unittest.TestCase):
     def test_times_and_less(self):
         for table, other in zip(some_tables(2), some_tables(3)):
             plain, line = of_fractions(table), of_fractions(other)
-            self.check_told(times(table, other), multiplied(plain, line))
-            self.check_told(times(other=other, table=table), multiplied(plain, line))
+            check_told(self, times(table, other), multiplied(plain, line))
+            check_told(self, times(other=other, table=table), multiplied(plain, line))
             wanted = [[a - b for a, b in zip(row, there)] for row, there in zip(plain, line)]
-            self.check_told(less(table, other), wanted)
-            self.check_told(less(other=other, table=tuple(tuple(row) for row in table)), wanted)
-        self.check_told(times([[1, 2], [0, 3]], ((0, 1), (1, 0))), [[2, 1], [3, 0]])
-        self.check_told(times([[0, 1], [1, 0]], [[1, 2], [0, 3]]), [[0, 3], [1, 2]])
+            check_told(self, less(table, other), wanted)
+            check_told(self, less(other=other, table=tuple(tuple(row) for row in table)), wanted)
+        check_told(self, times([[1, 2], [0, 3]], ((0, 1), (1, 0))), [[2, 1], [3, 0]])
+        check_told(self, times([[0, 1], [1, 0]], [[1, 2], [0, 3]]), [[0, 3], [1, 2]])
 
     def test_about(self):
         for table in some_tables(4):
-            self.check_told(about(table), [list(column) for column in zip(*of_fractions(table))])
-        self.check_told(about(table=((1, 2), [3, Ratio(1, 2)])), [[1, 3], [2, Fraction(1, 2)]])
+            check_told(self, about(table), [list(column) for column in zip(*of_fractions(table))])
+        check_told(self, about(table=((1, 2), [3, Ratio(1, 2)])), [[1, 3], [2, Fraction(1, 2)]])
 
     def test_undone(self):
         undone_ones = 0
@@ -121,13 +87,13 @@ class Told(unittest.TestCase):
                 found = undone(table)
                 plain, size = of_fractions(found), len(table)
                 one = [[int(i == j) for j in range(size)] for i in range(size)]
-                self.check_told(found, plain)
+                check_told(self, found, plain)
                 self.assertEqual(multiplied(plain, of_fractions(table)), one)
                 self.assertEqual(multiplied(of_fractions(table), plain), one)
                 undone_ones += 1
         self.assertGreater(undone_ones, 20)
-        self.check_told(undone([]), [])
-        self.check_told(undone(table=((0, 2), (1, 0))), [[0, 1], [Fraction(1, 2), 0]])
+        check_told(self, undone([]), [])
+        check_told(self, undone(table=((0, 2), (1, 0))), [[0, 1], [Fraction(1, 2), 0]])
 
     def test_not_undone(self):
         for table in ([[0]], [[1, 2], [2, 4]], [[0, 0], [1, 1]], [[1, 1], [Ratio(1, 3), Ratio(1, 3)]], [[0] * 6] * 6):

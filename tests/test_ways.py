@@ -6,18 +6,14 @@ from itertools import combinations, permutations
 from tests.drawn import all_ties, closed, drawings, has_ring
 from tests.kinds import Stubborn, all_but, check_refused
 from tests.test_plans import NO_PAIR_LISTS
+from tests.wrong import NO_LOTS, NO_PLANS, NO_THINGS
 from toldpushes.errors import (InvalidArrows, InvalidLot, InvalidOrder, InvalidPlan, InvalidThing, InvalidTies, TooMany)
 from toldpushes.plans import Plan
 from toldpushes.ratios import Ratio
 from toldpushes.ways import ahead, beside, cut, leads, renamed, tie_parts, with_more, without
 
 LINE = Plan(3, [(1, 2), (0, 1)], [(0, 2)])
-NO_PLANS = all_but(Plan(0, [], []), Plan(2, [(0, 1)], [])) + [Plan, "Plan(0, [], [])", (0, [], []), [Plan(0, [], [])]]
-# No things, no lots and no orders of a plan of size 3.
-NO_THINGS = all_but(0, 1) + [3, True, False, Ratio(2), "2", [2], (2,), -1]
-NO_LOTS = all_but([], (), [0], (0,)) + [[1, 0], [0, 0], [0, 1, 1], [0, 3], [-1, 0], [0, True], [False, 1], [0, Ratio(1)], "01",
-                                        {0, 1}, {0: 1}, range(2), [[0, 1]], [0, "1"], [0, None], (2, 1), [0, 1, 2, 3],
-                                        [0, Stubborn()], iter([0, 1])]
+# No orders of a plan of size 3.
 NO_ORDERS = all_but() + [[], [0, 1], [0, 1, 1], [0, 0, 0], [0, 1, 3], [1, 2, 3], [0, 1, 2, 2], [0, 1, 2, 3], [False, 1, 2],
                          [0, True, 2], [0, 1, Ratio(2)], "012", {0, 1, 2}, {0: 0, 1: 1, 2: 2}, range(3), [[0, 1, 2]], [0, 1, -1],
                          [0, 1, None], [0, 1, Stubborn()], iter([0, 1, 2])]

@@ -1,8 +1,10 @@
-"""The errors that belong to parameters of certain names everywhere."""
+"""What belongs to a plan, and the errors that belong to parameters of certain names everywhere."""
 
-from toldpushes.drawing import are_things, is_thing
-from toldpushes.errors import InvalidLot, InvalidPlan, InvalidThing
+from toldpushes.drawing import are_things, both_ways, is_thing
+from toldpushes.errors import InvalidLot, InvalidPlan, InvalidPushes, InvalidTable, InvalidTelling, InvalidThing
 from toldpushes.plans import Plan
+from toldpushes.reckon import told
+from toldpushes.tables import is_above, is_symmetric, is_table
 
 
 def check_plan(plan):
@@ -26,3 +28,52 @@ def check_lot(plan, lot):
     """InvalidLot(lot) unless it is a lot of the plan."""
     if not is_lot_of(plan, lot):
         raise InvalidLot(lot)
+
+
+def is_table_of(size, value):
+    """Whether any value is a table of this size."""
+    return is_table(value) and len(value) == size
+
+
+def check_symmetric(size, table):
+    """InvalidTable(table) unless it is a symmetric table of this size."""
+    if not is_table_of(size, table) or not is_symmetric(table):
+        raise InvalidTable(table)
+
+
+def has_noughts_but(table, pairs):
+    """Whether a table has 0 at each place (i, j) that is not among the pairs."""
+    numbered = [(row, place, number) for row, line in enumerate(told(table)) for place, number in enumerate(line)]
+    return all([number.sign == 0 or (row, place) in pairs for row, place, number in numbered])
+
+
+def are_pushes(plan, value):
+    """Whether any value is a table of the plan's size with 0 wherever the plan has no arrow."""
+    return is_table_of(plan.width, value) and has_noughts_but(value, plan.arrows())
+
+
+def check_pushes(plan, pushes):
+    """InvalidPushes(pushes) unless they are a table with 0 wherever the plan has no arrow."""
+    if not are_pushes(plan, pushes):
+        raise InvalidPushes(pushes)
+
+
+def is_own(plan, value):
+    """Whether any value is an own table of the plan: above nought, with 0 at unlike things without a tie."""
+    if not is_table_of(plan.width, value) or not is_above(value):
+        return False
+    line = [(thing, thing) for thing in range(plan.width)]
+    return has_noughts_but(value, both_ways(plan.ties()) + line)
+
+
+def is_telling_of(plan, value):
+    """Whether any value is a telling of the plan."""
+    if not isinstance(value, tuple) or len(value) != 2:
+        return False
+    return are_pushes(plan, value[0]) and is_own(plan, value[1])
+
+
+def check_telling(plan, telling):
+    """InvalidTelling(telling) unless it is a telling of the plan."""
+    if not is_telling_of(plan, telling):
+        raise InvalidTelling(telling)

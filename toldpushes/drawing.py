@@ -44,6 +44,21 @@ def are_things(size, value):
     return len(set(value)) == len(value)
 
 
+def turned(pairs):
+    """The pairs, each the other way round."""
+    return [(end, start) for start, end in pairs]
+
+
+def both_ways(ties):
+    """Each tie as a pair from either thing to the other one."""
+    return ties + turned(ties)
+
+
+def within(pairs, things):
+    """The pairs that go between these things alone."""
+    return [(start, end) for start, end in pairs if start in things and end in things]
+
+
 def order_of(size, arrows):
     """The least list in which each arrow goes from an earlier to a later thing.
 
@@ -69,4 +84,13 @@ def reached(pairs, start):
         fresh = [end for here, end in pairs if here == thing and end not in found]
         found.extend(fresh)
         waiting.extend(fresh)
+    return found
+
+
+def walks(pairs, start):
+    """All lists of things from the start on, each next one behind the one before by a pair; pairs make no rings."""
+    found, last = [], [[start]]
+    while last:
+        found.extend(last)
+        last = [[*walk, end] for walk in last for here, end in pairs if here == walk[-1]]
     return found

@@ -39,7 +39,7 @@ def check_goals(rows, goals):
 
 
 def solve(rows, goals):
-    """A list that each row leads to its goal; None if there is none."""
+    """A list that each row leads to its goal; None if there is none. There is a row, perhaps without a number."""
     wide = len(rows[0])
     lines, places = in_steps([[*row, goal] for row, goal in zip(rows, goals)])
     # A head among the goals is a row that leads all lists to 0, with a goal of 1.
@@ -94,18 +94,28 @@ def is_solution(rows, goals, value):
     return all([led(row, value) == as_ratio(goal) for row, goal in zip(rows, goals)])
 
 
-def bar(rows, goals):
-    """A bar of the rows with these goals; None if there is none."""
-    check_goals(rows, goals)
+def barring(rows, goals):
+    """A list of Ratios, one for each row, that makes noughts of the rows and not 0 of the goals; None if none does."""
     columns = list(zip(*rows))
     # What is not 0 can be scaled to 1, so a bar may be sought as a solution.
     return solve([*columns, goals], [0] * len(columns) + [1])
 
 
-def is_bar(rows, goals, value):
-    """Whether any value is a bar of the rows with these goals."""
-    check_goals(rows, goals)
+def is_barring(rows, goals, value):
+    """Whether any value is a list of NUMBERS, one for each row, that makes noughts of them and not 0 of the goals."""
     if not are_numbers(value) or len(value) != len(rows):
         return False
     sums = [led(column, value) for column in zip(*rows)]
     return all([number.sign == 0 for number in sums]) and led(goals, value).sign != 0
+
+
+def bar(rows, goals):
+    """A bar of the rows with these goals; None if there is none."""
+    check_goals(rows, goals)
+    return barring(rows, goals)
+
+
+def is_bar(rows, goals, value):
+    """Whether any value is a bar of the rows with these goals."""
+    check_goals(rows, goals)
+    return is_barring(rows, goals, value)

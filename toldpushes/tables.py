@@ -2,7 +2,7 @@
 
 from toldpushes.basics import is_list
 from toldpushes.errors import InvalidTable, NotSymmetric, NotUndone, UnlikeSizes
-from toldpushes.ratios import Ratio, are_numbers
+from toldpushes.ratios import Ratio, are_numbers, as_ratio
 from toldpushes.reckon import determinant_of, in_steps, led, told
 from toldpushes.sizes import check_size, is_size
 
@@ -28,10 +28,21 @@ def check_two(table, other):
         raise UnlikeSizes()
 
 
+def table_with(line, pairs, number):
+    """The told table with these NUMBERS on its line, the number at all pairs of unlike places, and 0 else."""
+    places = range(len(line))
+    found = [[Ratio(0) for _ in places] for _ in places]
+    for place in places:
+        found[place][place] = as_ratio(line[place])
+    for row, place in pairs:
+        found[row][place] = as_ratio(number)
+    return found
+
+
 def idle(size):
     """The idle table: 1 on the line, 0 else."""
     check_size(size)
-    return [[Ratio(1 if row == place else 0) for place in range(size)] for row in range(size)]
+    return table_with([1] * size, [], 0)
 
 
 def times(table, other):

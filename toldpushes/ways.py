@@ -1,7 +1,7 @@
 """What leads to what in a plan, its parts by ties, and plans made of other plans."""
 
 from toldpushes.checks import check_lot, check_plan, check_thing
-from toldpushes.drawing import are_arrows, are_pairs, are_some, are_things, are_ties, reached
+from toldpushes.drawing import are_arrows, are_pairs, are_some, are_things, are_ties, both_ways, reached, turned, within
 from toldpushes.errors import InvalidArrows, InvalidOrder, InvalidTies, TooMany
 from toldpushes.plans import Plan
 from toldpushes.sizes import MOST_THINGS
@@ -19,15 +19,14 @@ def ahead(plan, thing):
     """The rising list of all other things that lead to the thing."""
     check_plan(plan)
     check_thing(plan, thing)
-    against = [(end, start) for start, end in plan.arrows()]
-    return sorted([other for other in reached(against, thing) if other != thing])
+    return sorted([other for other in reached(turned(plan.arrows()), thing) if other != thing])
 
 
 def tie_parts(plan):
     """The sorted list of the plan's parts by ties, rising lists."""
     check_plan(plan)
-    both_ways = [*plan.ties(), *[(high, low) for low, high in plan.ties()]]
-    parts = [sorted(reached(both_ways, thing)) for thing in range(plan.width)]
+    bonds = both_ways(plan.ties())
+    parts = [sorted(reached(bonds, thing)) for thing in range(plan.width)]
     # Each part came up once for each of its things: it is kept for the least of them.
     return [part for thing, part in enumerate(parts) if part[0] == thing]
 
@@ -75,9 +74,7 @@ def cut(plan, lot):
     check_plan(plan)
     check_lot(plan, lot)
     names = {thing: place for place, thing in enumerate(lot)}
-    arrows = [(start, end) for start, end in plan.arrows() if start in names and end in names]
-    ties = [(low, high) for low, high in plan.ties() if low in names and high in names]
-    return told_anew(len(lot), names, arrows, ties)
+    return told_anew(len(lot), names, within(plan.arrows(), lot), within(plan.ties(), lot))
 
 
 def beside(plan, other):
