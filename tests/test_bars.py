@@ -5,7 +5,7 @@ import unittest
 
 from tests.drawn import all_arrows, all_ties, drawings, has_ring
 from tests.kinds import check_fresh, check_parameters, check_refused, check_stopped
-from tests.told import bars_of, has_head, is_hanging, lots_of
+from tests.told import bars_of, dense_plain_ones, has_head, is_hanging, lots_of
 from tests.wrong import LINE, NO_PLANS, NO_THINGS
 from toldpushes.bars import bar_of, barred_lots, can_put, greatest_lot, is_plain, least_bars
 from toldpushes.errors import InvalidPlan, InvalidThing, NotPlain
@@ -99,6 +99,21 @@ class CanPut(unittest.TestCase):
                 self.assertEqual([type(told), type(told[0]), type(told[1])], [tuple, list, list])
                 some_rings += any(has_ring(plan.width, plan.arrows() + [arrow]) for arrow in all_arrows(plan.width))
         self.assertGreater(some_rings, 30)
+
+    def test_what_would_bar(self):
+        arrows, ties = [(0, 1), (1, 2), (2, 3)], [(0, 2), (0, 3), (1, 3)]
+        for left in ties:
+            self.assertEqual(can_put(Plan(4, arrows, [tie for tie in ties if tie != left])), ([left], []))
+        barring_arrows, barring_ties = 0, 0
+        for plan in dense_plain_ones(42):
+            wanted = put_by_definition(plan)
+            self.assertEqual(can_put(plan), wanted)
+            arrows, ties = plan.arrows(), plan.ties()
+            loose = [(low, high) for low, high in all_ties(plan.width) if not {(low, high), (high, low)} & {*arrows, *ties}]
+            straight = [arrow for pair in loose for arrow in (pair, pair[::-1]) if not has_ring(plan.width, arrows + [arrow])]
+            barring_arrows += len(wanted[0]) < len(straight)
+            barring_ties += len(wanted[1]) < len(loose)
+        self.assertGreater(min(barring_arrows, barring_ties), 3)
 
     def test_arrows_in_either_direction(self):
         self.assertEqual(can_put(plan=Plan(2, [], [])), ([(0, 1), (1, 0)], [(0, 1)]))

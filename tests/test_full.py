@@ -8,7 +8,8 @@ from tests.drawn import all_arrows, all_ties, drawings, has_ring
 from tests.kinds import check_fresh, check_parameters, check_refused, check_stopped, check_too_many
 from tests.reckoned import check_told, of_fractions, of_ratios
 from tests.test_plans import NO_SIZES
-from tests.told import bars_of, is_above_nought, plain_ones, some_own, some_symmetric, some_tellings, table_by_definition
+from tests.told import (bars_of, dense_plain_ones, is_above_nought, plain_ones, some_own, some_symmetric, some_tellings,
+                        table_by_definition)
 from tests.wrong import LINE, NO_OWNS, NO_PLANS, NO_SYMMETRIC, OWN
 from toldpushes.errors import InvalidPlan, InvalidSize, InvalidTable, NotAbove, NotFull, NotPlain, TooMany
 from toldpushes.full import fillings, full_back, full_plans, is_full
@@ -180,7 +181,8 @@ class Fillings(unittest.TestCase):
             loose = len(all_ties(plan.width)) - len(plan.arrows()) - len(plan.ties())
             if loose < 8 or (plan.width < 6 and chance.random() < 0.2):
                 found.append(self.check_fillings(plan))
-        self.assertGreater(len(found), 40)
+        found += [self.check_fillings(plan) for plan in dense_plain_ones(87)]
+        self.assertGreater(len(found), 60)
         self.assertTrue(any(many > 3 for many in found))
 
     def test_limit(self):

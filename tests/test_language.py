@@ -106,6 +106,34 @@ def is_call_with_wrong_stars(node):
                 and (not double or len(node.keywords) == 1))
 
 
+def is_plain_value(node):
+    """Whether it is a literal, or a list, tuple or dict of such and of names."""
+    if isinstance(node, (ast.List, ast.Tuple)):
+        return all(is_plain_value(part) for part in node.elts)
+    if isinstance(node, ast.Dict):
+        return all(part is not None and is_plain_value(part) for part in node.keys + node.values)
+    if isinstance(node, ast.UnaryOp):
+        return isinstance(node.op, ast.USub) and isinstance(node.operand, ast.Constant)
+    return isinstance(node, (ast.Constant, ast.Name))
+
+
+def is_short_lived(node):
+    """Whether it is a call of zip, enumerate, reversed, or of items, keys or values."""
+    if not isinstance(node, ast.Call):
+        return False
+    if isinstance(node.func, ast.Name):
+        return node.func.id in ("zip", "enumerate", "reversed")
+    return isinstance(node.func, ast.Attribute) and node.func.attr in ("items", "keys", "values")
+
+
+def iterated_at_once(tree):
+    """All that is iterated where it stands."""
+    takers = "list tuple dict sorted sum any all enumerate zip min max".split()
+    found = [node.iter for node in ast.walk(tree) if isinstance(node, (ast.For, ast.comprehension))]
+    return found + [part for node in ast.walk(tree) if isinstance(node, ast.Call) and isinstance(node.func, ast.Name)
+                    and node.func.id in takers for part in (node.args if node.func.id == "zip" else node.args[:1])]
+
+
 class Files(unittest.TestCase):
 
     def test_names(self):
@@ -131,6 +159,13 @@ class Files(unittest.TestCase):
                 self.assertIsInstance(row, (ast.ImportFrom, ast.FunctionDef, ast.ClassDef, ast.Assign))
                 if isinstance(row, ast.ImportFrom):
                     self.assertTrue(before is None or isinstance(before, ast.ImportFrom), name)
+
+    def test_values_at_top(self):
+        for name, (_, tree) in FILES.items():
+            for row in tree.body:
+                if isinstance(row, ast.Assign):
+                    self.assertEqual([type(target) for target in row.targets], [ast.Name], name)
+                    self.assertTrue(is_plain_value(row.value), name)
 
     def test_imports(self):
         for name, node in NODES:
@@ -211,6 +246,24 @@ class Rows(unittest.TestCase):
         for name, node in NODES:
             if isinstance(node, ast.Compare) and any(isinstance(sign, (ast.Is, ast.IsNot)) for sign in node.ops):
                 self.assertIsInstance(node.comparators[0], ast.Constant, name)
+
+    def test_raise(self):
+        for name, node in NODES:
+            if isinstance(node, ast.Raise) and node.exc is not None:
+                self.assertIsInstance(node.exc, ast.Call, name)
+                self.assertIn(node.exc.func.id, ERRORS | TAKEN, name)
+
+    def test_iterated_at_once(self):
+        for name, (_, tree) in FILES.items():
+            there = iterated_at_once(tree)
+            for node in ast.walk(tree):
+                if is_short_lived(node):
+                    self.assertIn(node, there, (name, node.lineno))
+
+    def test_nothing_is_added_in_place(self):
+        for name, node in NODES:
+            if isinstance(node, ast.AugAssign):
+                self.assertIsInstance(node.value, ast.Constant, (name, node.lineno))
 
     def test_sets(self):
         for name, (_, tree) in FILES.items():

@@ -2,7 +2,7 @@
 
 import random
 
-from tests.drawn import closed, drawings
+from tests.drawn import all_ties, closed, drawings
 from tests.reckoned import multiplied, of_fractions, turned
 from toldpushes.plans import Plan
 from toldpushes.ratios import Ratio
@@ -115,6 +115,27 @@ def plain_ones(seed):
             if part:
                 part.remove(chance.choice(part))
         found.append(Plan(size, arrows, ties))
+    return found
+
+
+def dense_plain_ones(seed, many=24):
+    """Plain plans of 4 to 6 things with as few loose pairs as can be: what was taken from them barred them."""
+    chance, found = random.Random(seed), []
+    while len(found) < many:
+        size, arrows, ties = chance.choice([4, 5, 5, 6]), [], []
+        order = chance.sample(range(size), size)
+        for low, high in all_ties(size):
+            if chance.random() < 0.5:
+                arrows.append(tuple(sorted((low, high), key=order.index)))
+            else:
+                ties.append((low, high))
+        taken = 0
+        while bars_of(Plan(size, arrows, ties)):
+            part = chance.choice([arrows, ties])
+            part.remove(chance.choice(part))
+            taken += 1
+        if taken:
+            found.append(Plan(size, arrows, ties))
     return found
 
 

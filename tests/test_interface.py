@@ -1,0 +1,60 @@
+"""Each name of the interface is defined in the file under which it is listed, with just its parameters."""
+
+import ast
+import importlib
+import inspect
+import os
+import unittest
+
+FOLDER = os.path.join(os.path.dirname(__file__), "..", "toldpushes")
+
+LISTED = {
+    "basics": ["is_integer(value)", "is_count(value)"],
+    "ratios": ["is_number(value)", "Ratio(top, bottom=1)"],
+    "solved": ["steps(rows)", "kernel(rows, wide)", "solution(rows, goals)", "is_solution(rows, goals, value)", "bar(rows, goals)",
+               "is_bar(rows, goals, value)"],
+    "tables": ["is_table(value)", "idle(size)", "times(table, other)", "less(table, other)", "about(table)", "undone(table)",
+               "determinant(table)", "is_symmetric(table)", "pivots(table)", "is_above(table)"],
+    "plans": ["Plan(size, arrows, ties)"],
+    "ways": ["leads(plan, start, end)", "ahead(plan, thing)", "tie_parts(plan)", "with_more(plan, arrows, ties)",
+             "without(plan, arrows, ties)", "renamed(plan, order)", "cut(plan, lot)", "beside(plan, other)"],
+    "tellings": ["is_telling(plan, value)", "table_of(plan, telling)", "ones(plan)", "own_of(plan, pushes, table)",
+                 "lefts(plan, pushes, table)", "scaled(plan, telling, numbers)", "cut_telling(plan, telling, lot)"],
+    "roads": ["roads(plan, start, end)", "is_joined(plan, start, end)", "road_worth(plan, telling, road)",
+              "table_by_roads(plan, telling)"],
+    "lots": ["is_lot(plan, value)", "head(plan, lot)", "hangs(plan, lot)", "is_barred(plan, value)"],
+    "bars": ["greatest_lot(plan, thing)", "barred_lots(plan)", "least_bars(plan)", "is_plain(plan)", "bar_of(plan)", "can_put(plan)"],
+    "back": ["equations(plan, pushes, table, thing)", "told_back(plan, table)"],
+    "fits": ["fits(plan, table)", "misfit(plan, table)", "is_misfit(plan, table, value)"],
+    "twins": ["are_twins(plan, value)", "twins_of(plan, lot)", "twins(plan)", "apart(plan, telling, other)",
+              "same_table(plan, telling, other)"],
+    "full": ["is_full(plan)", "full_plans(size)", "full_back(plan, table)", "fillings(plan)"],
+}
+
+METHODS = {"Ratio": "top bottom sign is_whole __add__ __radd__ __sub__ __rsub__ __mul__ __rmul__ __neg__ over size is_below is_at_most"
+                    " __eq__ total __str__ __repr__".split(),
+           "Plan": "width arrows ties order __eq__ __repr__".split()}
+
+
+class Interface(unittest.TestCase):
+
+    def test_defined_where_listed(self):
+        for name, listed in LISTED.items():
+            with open(os.path.join(FOLDER, f"{name}.py"), encoding="ascii") as kept:
+                tree = ast.parse(kept.read())
+            defined = {row.name for row in tree.body if isinstance(row, (ast.FunctionDef, ast.ClassDef))}
+            there = importlib.import_module(f"toldpushes.{name}")
+            for text in listed:
+                word = text.split("(")[0]
+                self.assertIn(word, defined)
+                self.assertEqual(word + str(inspect.signature(getattr(there, word))), text)
+
+    def test_methods_stand_in_the_class_itself(self):
+        for name, words in METHODS.items():
+            there = importlib.import_module({"Ratio": "toldpushes.ratios", "Plan": "toldpushes.plans"}[name])
+            for word in words:
+                self.assertIn(word, vars(getattr(there, name)))
+
+
+if __name__ == "__main__":
+    unittest.main()
