@@ -29,6 +29,11 @@ LISTED = {
     "twins": ["are_twins(plan, value)", "twins_of(plan, lot)", "twins(plan)", "apart(plan, telling, other)",
               "same_table(plan, telling, other)"],
     "full": ["is_full(plan)", "full_plans(size)", "full_back(plan, table)", "fillings(plan)"],
+    "moved": ["moved(plan, other, telling)", "by_order(size, order, table)", "all_ties(size, table)"],
+    "known": ["is_known(plan, value)", "barred_by(plan, known, lot)", "greatest_by(plan, known, thing)", "is_enough(plan, known)",
+              "told_with(plan, known, numbers, table)", "twins_by(plan, known, lot)"],
+    "few": ["fewest(plan)", "fewest_known(plan)", "all_fewest(plan)"],
+    "texts": ["sorts()", "is_of_sort(sort, value)", "written(sort, value)"],
 }
 
 METHODS = {"Ratio": "top bottom sign is_whole __add__ __radd__ __sub__ __rsub__ __mul__ __rmul__ __neg__ over size is_below is_at_most"

@@ -23,7 +23,7 @@ DOUBLE = set("""__init__ __eq__ __repr__ __str__ __len__ __enter__ __exit__ __ca
     __mul__ __rmul__ __neg__ __contains__ __getitem__""".split())
 
 BARRED_NODES = (ast.Global, ast.AsyncFunctionDef, ast.AsyncFor, ast.AsyncWith, ast.Await, ast.Div, ast.GeneratorExp, ast.AnnAssign,
-                ast.Try, ast.Delete)
+                ast.Delete, ast.Yield, ast.YieldFrom, ast.NamedExpr)
 
 BARRED_NAMES = set("""register mro elements open input law version_info with_traceback add_note type typing enum Enum Generic
     Protocol ABC namedtuple NamedTuple TypedDict""".split())
@@ -162,10 +162,17 @@ class Files(unittest.TestCase):
 
     def test_values_at_top(self):
         for name, (_, tree) in FILES.items():
+            above = set()
             for row in tree.body:
+                if isinstance(row, ast.FunctionDef):
+                    above.add(row.name)
                 if isinstance(row, ast.Assign):
                     self.assertEqual([type(target) for target in row.targets], [ast.Name], name)
                     self.assertTrue(is_plain_value(row.value), name)
+                    # A table may have functions of its own file that stand above it; no list or dict lies within another.
+                    self.assertLessEqual({part.id for part in ast.walk(row.value) if isinstance(part, ast.Name)}, above, name)
+                    inner = [part for part in ast.walk(row.value) if isinstance(part, (ast.List, ast.Dict)) and part is not row.value]
+                    self.assertEqual(inner, [], name)
 
     def test_imports(self):
         for name, node in NODES:
@@ -241,6 +248,34 @@ class Rows(unittest.TestCase):
             if isinstance(node, ast.Constant):
                 self.assertNotIsInstance(node.value, (float, complex))
                 self.assertNotIn("%", str(node.value), name)
+
+    def test_only_own_errors_are_caught(self):
+        for name, node in NODES:
+            if isinstance(node, ast.Try):
+                self.assertEqual((node.orelse, node.finalbody), ([], []), name)
+                for handler in node.handlers:
+                    caught = handler.type.elts if isinstance(handler.type, ast.Tuple) else [handler.type]
+                    self.assertLessEqual({part.id for part in caught}, ERRORS, name)
+                    # A caught error's name stands behind `from` alone.
+                    used = [part for row in handler.body for part in ast.walk(row) if isinstance(part, ast.Name) and part.id == handler.name]
+                    causes = [row.cause for row in handler.body if isinstance(row, ast.Raise)]
+                    self.assertTrue(all(part in causes for part in used), name)
+
+    def test_leaving_a_block_assigns_alone(self):
+        for name, node in NODES:
+            if isinstance(node, ast.FunctionDef) and node.name == "__exit__":
+                for row in node.body:
+                    self.assertIsInstance(row, ast.Assign, name)
+                    self.assertIsInstance(row.value, ast.Attribute, name)
+                    self.assertEqual(row.value.value.id, "self", name)
+
+    def test_patterns(self):
+        for name, node in NODES:
+            if isinstance(node, ast.Match):
+                self.assertTrue(all(isinstance(case.pattern, (ast.MatchValue, ast.MatchOr, ast.MatchAs)) for case in node.cases), name)
+                self.assertTrue(all(case.guard is None for case in node.cases), name)
+                last = node.cases[-1].pattern
+                self.assertTrue(isinstance(last, ast.MatchAs) and last.name is None, name)
 
     def test_is(self):
         for name, node in NODES:

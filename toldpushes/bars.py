@@ -1,7 +1,7 @@
 """Barred lots: all of them, the least ones, the greatest ones with a head; and what can be put to a plain plan."""
 
 from toldpushes.checks import check_plan, check_thing
-from toldpushes.drawing import both_ways, order_of, reached, turned, within
+from toldpushes.drawing import both_ways, choices, order_of, reached, turned, within
 from toldpushes.errors import NotPlain
 from toldpushes.lots import is_barred
 from toldpushes.plans import Plan
@@ -20,18 +20,10 @@ def greatest_lot(plan, thing):
     return left
 
 
-def all_lots(plan):
-    """All lots of the plan."""
-    found = [[]]
-    for thing in range(plan.width):
-        found = found + [[*lot, thing] for lot in found]
-    return found
-
-
 def barred_lots(plan):
     """The sorted list of all barred lots."""
     check_plan(plan)
-    return sorted([lot for lot in all_lots(plan) if is_barred(plan, lot)])
+    return sorted([lot for lot in choices(list(range(plan.width))) if is_barred(plan, lot)])
 
 
 def lies_in(lot, other):

@@ -1,7 +1,8 @@
 """What belongs to a plan, and the errors that belong to parameters of certain names everywhere."""
 
-from toldpushes.drawing import are_things, both_ways, is_thing
-from toldpushes.errors import InvalidLot, InvalidPlan, InvalidPushes, InvalidTable, InvalidTelling, InvalidThing
+from toldpushes.drawing import are_some, are_things, both_ways, is_thing
+from toldpushes.errors import InvalidKnown, InvalidLot, InvalidOrder, InvalidPlan, InvalidPushes, InvalidTable
+from toldpushes.errors import InvalidTelling, InvalidThing
 from toldpushes.plans import Plan
 from toldpushes.reckon import told
 from toldpushes.tables import is_above, is_symmetric, is_table
@@ -19,9 +20,14 @@ def check_thing(plan, thing):
         raise InvalidThing(thing)
 
 
+def is_rising(size, value):
+    """Whether any value is a rising list of unlike things of a plan of this size."""
+    return are_things(size, value) and list(value) == sorted(value)
+
+
 def is_lot_of(plan, value):
     """Whether any value is a lot of the plan."""
-    return are_things(plan.width, value) and list(value) == sorted(value)
+    return is_rising(plan.width, value)
 
 
 def check_lot(plan, lot):
@@ -30,14 +36,36 @@ def check_lot(plan, lot):
         raise InvalidLot(lot)
 
 
+def check_order(size, order):
+    """InvalidOrder(order) unless it is a list of all things of a plan of this size, each once."""
+    if not are_things(size, order) or len(order) != size:
+        raise InvalidOrder(order)
+
+
+def are_known(plan, value):
+    """Whether any value is a list of unlike arrows of the plan."""
+    return are_some(plan.width, value, plan.arrows())
+
+
+def check_known(plan, known):
+    """InvalidKnown(known) unless it is a list of unlike arrows of the plan."""
+    if not are_known(plan, known):
+        raise InvalidKnown(known)
+
+
 def is_table_of(size, value):
     """Whether any value is a table of this size."""
     return is_table(value) and len(value) == size
 
 
+def is_symmetric_of(size, value):
+    """Whether any value is a symmetric table of this size."""
+    return is_table_of(size, value) and is_symmetric(value)
+
+
 def check_symmetric(size, table):
     """InvalidTable(table) unless it is a symmetric table of this size."""
-    if not is_table_of(size, table) or not is_symmetric(table):
+    if not is_symmetric_of(size, table):
         raise InvalidTable(table)
 
 

@@ -59,6 +59,14 @@ def within(pairs, things):
     return [(start, end) for start, end in pairs if start in things and end in things]
 
 
+def choices(values):
+    """All lists of some of the values, or none, each in their sequence."""
+    found = [[]]
+    for value in values:
+        found = found + [[*some, value] for some in found]
+    return found
+
+
 def order_of(size, arrows):
     """The least list in which each arrow goes from an earlier to a later thing.
 

@@ -24,7 +24,7 @@ def first_amiss(plan, table):
     place = low_pivot(table)
     if place is not None:
         return "pivot", place
-    pushes, thing = pushes_back(plan, table)
+    pushes, thing = pushes_back(plan, table, {})
     if thing is None:
         return None
     rows, goals = equations(plan, pushes, table, thing)

@@ -1,8 +1,8 @@
 """What leads to what in a plan, its parts by ties, and plans made of other plans."""
 
-from toldpushes.checks import check_lot, check_plan, check_thing
-from toldpushes.drawing import are_arrows, are_pairs, are_some, are_things, are_ties, both_ways, reached, turned, within
-from toldpushes.errors import InvalidArrows, InvalidOrder, InvalidTies, TooMany
+from toldpushes.checks import check_lot, check_order, check_plan, check_thing
+from toldpushes.drawing import are_arrows, are_pairs, are_some, are_ties, both_ways, reached, turned, within
+from toldpushes.errors import InvalidArrows, InvalidTies, TooMany
 from toldpushes.plans import Plan
 from toldpushes.sizes import MOST_THINGS
 
@@ -64,8 +64,7 @@ def told_anew(size, names, arrows, ties):
 def renamed(plan, order):
     """The plan with thing i called as the order has it at i."""
     check_plan(plan)
-    if not are_things(plan.width, order) or len(order) != plan.width:
-        raise InvalidOrder(order)
+    check_order(plan.width, order)
     return told_anew(plan.width, order, plan.arrows(), plan.ties())
 
 
