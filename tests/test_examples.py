@@ -33,7 +33,7 @@ class Examples(unittest.TestCase):
         self.assertEqual([head for head, _ in blocks()],
                          ["toldpushes/basics.py, toldpushes/ratios.py"]
                          + [f"toldpushes/{name}.py" for name in "solved tables plans ways tellings roads lots bars back fits"
-                            " twins full moved known few texts".split()])
+                            " twins full moved known few texts readers claims commands desk".split()])
 
     def test_readme(self):
         told = []

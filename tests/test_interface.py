@@ -34,11 +34,21 @@ LISTED = {
               "told_with(plan, known, numbers, table)", "twins_by(plan, known, lot)"],
     "few": ["fewest(plan)", "fewest_known(plan)", "all_fewest(plan)"],
     "texts": ["sorts()", "is_of_sort(sort, value)", "written(sort, value)"],
+    "readers": ["read(text)"],
+    "claims": ["words()", "is_claim(value)", "is_true(claim)", "contrary(claim)", "paper_of(claim)", "is_paper_of(claim, value)"],
+    "commands": ["is_name(value)", "is_command(value)", "is_deed(value)"],
+    "desk": ["Desk()", "Trial(desk)", "tried(desk, action)"],
 }
 
 METHODS = {"Ratio": "top bottom sign is_whole __add__ __radd__ __sub__ __rsub__ __mul__ __rmul__ __neg__ over size is_below is_at_most"
                     " __eq__ total __str__ __repr__".split(),
-           "Plan": "width arrows ties order __eq__ __repr__".split()}
+           "Plan": "width arrows ties order __eq__ __repr__".split(),
+           "Desk": "names labels __len__ __getitem__ __contains__ claim_of do __call__ do_all attempt attach fits lines copy again".split(),
+           "Trial": ["__enter__", "__exit__"]}
+HOMES = {"Ratio": "ratios", "Plan": "plans", "Desk": "desk", "Trial": "desk"}
+
+DESK = ["claim_of(self, label)", "do(self, command)", "__call__(self, command)", "do_all(self, *commands)", "attempt(self, *commands)",
+        "attach(self, label, paper)", "fits(self, label)", "lines(self)", "copy(self)", "again(cls, lines)"]
 
 
 class Interface(unittest.TestCase):
@@ -56,9 +66,16 @@ class Interface(unittest.TestCase):
 
     def test_methods_stand_in_the_class_itself(self):
         for name, words in METHODS.items():
-            there = importlib.import_module({"Ratio": "toldpushes.ratios", "Plan": "toldpushes.plans"}[name])
+            there = importlib.import_module(f"toldpushes.{HOMES[name]}")
             for word in words:
                 self.assertIn(word, vars(getattr(there, name)))
+
+    def test_parameters_of_a_desk(self):
+        methods = vars(importlib.import_module("toldpushes.desk").Desk)
+        for text in DESK:
+            word = text.split("(")[0]
+            self.assertEqual(word + str(inspect.signature(getattr(methods[word], "__func__", methods[word]))), text)
+        self.assertEqual([type(methods[word]) for word in ("names", "labels", "again")], [property, property, classmethod])
 
 
 if __name__ == "__main__":

@@ -61,7 +61,8 @@ class Sorts(unittest.TestCase):
 
     def test_lists_and_tuples(self):
         for sort, value in (("numbers", (1, Ratio(1, 2))), ("numbers", (0,) * 40), ("table", ((1, 2), [3, 4])), ("lot", (0, 1, 2, 3, 4, 5)),
-                            ("arrows", ((1, 0), (0, 1))), ("telling", (((1,),), [[2]])), ("telling", ([], ())), ("telling", ([[1, 2], [3, 4]], ((0, 0), (1, 0)))),
+                            ("arrows", ((1, 0), (0, 1))), ("telling", (((1,),), [[2]])), ("telling", ([], ())),
+                            ("telling", ([[1, 2], [3, 4]], ((0, 0), (1, 0)))),
                             ("road", ((1, 1, 1, 1, 1, 1), (2,))), ("road", ([0], (0, 1, 2, 3, 4, 5)))):
             self.assertIs(is_of_sort(sort, value), True)
         # A road need be none of a plan, a telling none of a plan either, arrows may make rings.
@@ -137,7 +138,8 @@ class Written(unittest.TestCase):
     def test_refused(self):
         for sort in SORTS:
             value = {"numbers": [1], "table": [], "lot": [0], "arrows": [], "plan": Plan(0, [], []), "telling": ([], []), "road": ([0], [0])}[sort]
-            check_parameters(self, written, {"sort": sort, "value": value}, {"sort": (InvalidSort, NO_SORTS), "value": (InvalidValue, no_values(sort))})
+            check_parameters(self, written, {"sort": sort, "value": value},
+                             {"sort": (InvalidSort, NO_SORTS), "value": (InvalidValue, no_values(sort))})
             for other in NO_SORTS:
                 check_refused(self, InvalidSort, other, is_of_sort, other, value)
                 check_refused(self, InvalidSort, other, is_of_sort, value=Stubborn(), sort=other)

@@ -1,4 +1,4 @@
-"""What passes for an INTEGER, a COUNT and a list."""
+"""What passes for an INTEGER, a COUNT and a list, and new copies."""
 
 
 def is_integer(value):
@@ -14,3 +14,12 @@ def is_count(value):
 def is_list(value):
     """Whether any value passes for a list: a tuple does as well."""
     return isinstance(value, (list, tuple))
+
+
+def fresh(value):
+    """The value, with new lists and tuples at whatever depth."""
+    if isinstance(value, list):
+        return [fresh(part) for part in value]
+    if isinstance(value, tuple):
+        return tuple([fresh(part) for part in value])
+    return value

@@ -15,12 +15,23 @@ def tops_of(plan):
     return [(thing, thing) for thing in range(plan.width)] + both_ways(plan.ties())
 
 
-def roads_of(plan, start, end):
-    """The sorted list of all roads from the start to the end: TooMany if there are more than a told list has."""
+def all_roads(plan, start, end):
+    """The list of all roads from the start to the end, however many."""
     against, tops = turned(plan.arrows()), tops_of(plan)
     ups = walks(against, start)
     downs = [walk[::-1] for walk in walks(against, end)]
-    found = [(list(up), list(down)) for up in ups for down in downs if (up[-1], down[0]) in tops]
+    return [(list(up), list(down)) for up in ups for down in downs if (up[-1], down[0]) in tops]
+
+
+def road_between(plan, start, end):
+    """A road from the start to the end; None if there is none."""
+    found = all_roads(plan, start, end)
+    return found[0] if found else None
+
+
+def roads_of(plan, start, end):
+    """The sorted list of all roads from the start to the end: TooMany if there are more than a told list has."""
+    found = all_roads(plan, start, end)
     if len(found) > MOST_ROADS:
         raise TooMany("roads", MOST_ROADS)
     return sorted(found)
@@ -65,6 +76,11 @@ def is_road(plan, value):
     if not is_walk_down(plan, up[::-1]) or not is_walk_down(plan, down):
         return False
     return (up[-1], down[0]) in tops_of(plan)
+
+
+def is_road_between(plan, start, end, value):
+    """Whether any value is a road of the plan from the start to the end."""
+    return is_road(plan, value) and value[0][0] == start and value[1][-1] == end
 
 
 def worth_of(pushes, own, road):
