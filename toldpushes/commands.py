@@ -31,7 +31,8 @@ DEEDS = {
     "drop": ("NAME",),
     "forget": ("LABEL",),
 }
-# Those behind the WORD of a claim, which stands in a command behind `claim` and a FREE label. It has the form of a name.
+# Those behind the WORD of a claim, which has the form of a name. It stands in a command behind `claim` and a FREE
+# label.
 CLAIMS = {
     "plain": ("PLAN",),
     "barred": ("PLAN",),
