@@ -120,7 +120,7 @@ class Walks(unittest.TestCase):
 
     def test_walks(self):
         found = []
-        for seed in range(120):
+        for seed in range(90):
             found += self.check_walk(1000 + seed, 150)
         # Each word was answered, and refused, where it can be; each kind of error came.
         done = {word for word, good, _ in found if good}

@@ -81,6 +81,10 @@ class Few(unittest.TestCase):
         plan = Plan(4, [(2, 0), (1, 3), (0, 3)], [(0, 1), (1, 2), (2, 3)])
         self.check_few(plan)
         self.assertEqual(all_fewest(plan), [[(0, 3)], [(1, 3)]])
+        # The same at two heads: lists that go together in each way, sorted.
+        plan = Plan(5, [(2, 0), (1, 4), (0, 4), (1, 3), (0, 3)], [(0, 1), (1, 2), (2, 3), (2, 4)])
+        self.check_few(plan)
+        self.assertEqual(all_fewest(plan), [[(0, 3), (0, 4)], [(0, 3), (1, 4)], [(0, 4), (1, 3)], [(1, 3), (1, 4)]])
         for drawing, many in (((4, [(0, 1), (0, 2), (2, 1), (3, 1)], [(0, 1), (0, 3), (2, 3)]), 2),
                               ((5, [(0, 1), (3, 2), (3, 4), (4, 1)], [(0, 3), (0, 4), (1, 3), (2, 4)]), 2),
                               ((5, [(2, 1), (3, 0), (3, 1), (3, 4), (4, 1)], [(0, 3), (1, 3), (2, 3), (2, 4)]), 2)):

@@ -353,6 +353,10 @@ class Refused(unittest.TestCase):
         check_parameters(self, greatest_by, {"plan": LINE, "known": [(0, 1)], "thing": 2},
                          {"plan": plan, "known": known, "thing": (InvalidThing, NO_THINGS)})
         check_parameters(self, is_enough, {"plan": LINE, "known": [(0, 1)]}, {"plan": plan, "known": known})
+        # Also where no thing is there to be a head.
+        for value in all_but([], ()) + NO_KNOWN:
+            check_refused(self, InvalidKnown, value, is_enough, Plan(0, [], []), value)
+            check_refused(self, InvalidKnown, value, told_with, Plan(0, [], []), value, "later", "later")
         for value in NO_PLANS:
             check_refused(self, InvalidPlan, value, is_known, value, [])
             check_refused(self, InvalidPlan, value, is_known, value="later", plan=value)

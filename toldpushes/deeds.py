@@ -2,9 +2,9 @@
 
 from toldpushes.back import told_back
 from toldpushes.checks import is_rising
-from toldpushes.claims import is_claim, is_true
+from toldpushes.claims import is_true
 from toldpushes.commands import parsed
-from toldpushes.errors import InvalidClaim, InvalidLot, InvalidTable, NoneThere, TooMany, UnlikeSizes
+from toldpushes.errors import InvalidLot, InvalidTable, NoneThere, TooMany, UnlikeSizes
 from toldpushes.moved import moved
 from toldpushes.pages import Page, check_labels, claim_in, state_of, told_states, values_of
 from toldpushes.plans import Plan
@@ -99,10 +99,8 @@ def without_one(page, name):
 
 def noted(page, label, text):
     """The page with a claim, given by the words behind its label, noted under the label."""
-    claim = claim_in(page.kept, text)
-    if not is_claim(claim):
-        raise InvalidClaim(claim)
-    state = "true" if is_true(claim) else "false"
+    # What is no claim is refused here, too.
+    state = "true" if is_true(claim_in(page.kept, text)) else "false"
     if len(page.claims) == MOST_LABELS:
         raise TooMany("labels", MOST_LABELS)
     return Page(page.kept, {**page.claims, label: text}, {**page.states, label: state})

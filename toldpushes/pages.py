@@ -1,9 +1,9 @@
 """What a desk keeps and notes at a time, and the states of its claims."""
 
 from toldpushes.basics import fresh
-from toldpushes.claims import is_claim, is_true
+from toldpushes.claims import is_true
 from toldpushes.commands import parsed_claim
-from toldpushes.errors import LabelTaken, NameTaken, NotPlain, TooMany, UnknownLabel, UnknownName
+from toldpushes.errors import InvalidClaim, LabelTaken, NameTaken, NotPlain, TooMany, UnknownLabel, UnknownName
 
 KEPT_KINDS = ("PLAN", "TABLE", "PAIR", "LOT")
 
@@ -77,11 +77,8 @@ def claim_in(kept, text):
 def state_of(kept, text):
     """The state of a claim, given by the words behind its label."""
     try:
-        claim = claim_in(kept, text)
-        if not is_claim(claim):
-            return "gone"
-        return "true" if is_true(claim) else "false"
-    except (UnknownName, NotPlain, TooMany):
+        return "true" if is_true(claim_in(kept, text)) else "false"
+    except (UnknownName, InvalidClaim, NotPlain, TooMany):
         return "gone"
 
 
